@@ -1,0 +1,1 @@
+"""Leadswitch: leads that are switched one by one."""

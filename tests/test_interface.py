@@ -1,0 +1,73 @@
+"""The names, arguments and places that the section "The interface" of DOC.md lists."""
+
+import importlib
+import inspect
+import unittest
+
+FUNCTIONS = {
+    "leadswitch.kinds": {
+        "is_integer": ["thing"], "is_amount": ["thing"], "is_count": ["thing"], "is_set": ["thing", "size"],
+        "are_bounds": ["thing"], "are_bundles": ["thing", "size"],
+    },
+    "leadswitch.assignments": {
+        "are_leads": ["cluster", "thing"], "led": ["cluster", "leads", "one", "other"],
+        "loads": ["cluster", "leads"], "first_invalid": ["cluster", "leads"],
+    },
+}
+
+CLASSES = {
+    "leadswitch.errors": {
+        "LeadError": {}, "NotLegal": {}, "Nothing": {}, "NoText": {}, "NoCommand": {},
+        "Wrong": {"__init__": ["place"]}, "Stopped": {"__init__": ["block", "turn", "run"]},
+        "NoBundle": {"__init__": ["one", "other"]}, "Frozen": {"__init__": ["bundle"]},
+        "NotValid": {"__init__": ["broker"]}, "NotLed": {"__init__": ["broker"]},
+        "Impossible": {"__init__": ["at"]}, "TooMany": {"__init__": ["limit"]},
+    },
+    "leadswitch.clusters": {
+        "Cluster": {
+            "__init__": ["bounds", "bundles"], "__eq__": ["other"], "__len__": [], "size": [], "bounds": [],
+            "bundles": [], "floor": ["broker"], "ceiling": ["broker"], "is_rigid": ["broker"],
+            "bundle_of": ["one", "other"], "bounded": ["broker", "floor", "ceiling"],
+            "grown": ["one", "other", "many"],
+        },
+    },
+}
+
+
+class InterfaceTest(unittest.TestCase):
+    def check_arguments(self, function, names):
+        parameters = list(inspect.signature(function).parameters.values())
+        self.assertEqual([parameter.name for parameter in parameters], names)
+        for parameter in parameters:
+            self.assertEqual(parameter.kind, inspect.Parameter.POSITIONAL_OR_KEYWORD)
+            self.assertIs(parameter.default, inspect.Parameter.empty)
+
+    def test_functions_are_defined_in_their_files(self):
+        for path, functions in FUNCTIONS.items():
+            for name, arguments in functions.items():
+                with self.subTest(path=path, name=name):
+                    function = getattr(importlib.import_module(path), name)
+                    self.assertTrue(inspect.isfunction(function))
+                    self.assertEqual((function.__module__, function.__name__), (path, name))
+                    self.check_arguments(function, arguments)
+
+    def test_classes_are_defined_in_their_files(self):
+        for path, classes in CLASSES.items():
+            for name in classes:
+                with self.subTest(path=path, name=name):
+                    found = getattr(importlib.import_module(path), name)
+                    self.assertTrue(inspect.isclass(found))
+                    self.assertEqual((found.__module__, found.__name__), (path, name))
+
+    def test_methods_stand_in_the_body_of_their_class(self):
+        for path, classes in CLASSES.items():
+            for name, methods in classes.items():
+                body = vars(getattr(importlib.import_module(path), name))
+                for method, arguments in methods.items():
+                    with self.subTest(path=path, name=name, method=method):
+                        self.assertTrue(inspect.isfunction(body[method]))
+                        self.check_arguments(body[method], ["self"] + arguments)
+
+
+if __name__ == "__main__":
+    unittest.main()
