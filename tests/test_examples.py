@@ -1,7 +1,11 @@
 """The examples of DOC.md, word for word."""
 
 import doctest
+import inspect
+import re
 import unittest
+
+from leadswitch.errors import LeadError
 
 EXAMPLES = {
     20: """
@@ -28,14 +32,88 @@ EXAMPLES = {
 >>> [loads(cluster, (1, 1, 0)), led(cluster, (1, 1, 0), 2, 0), first_invalid(cluster, (1, 0, 0)), first_invalid(cluster, (0, 1, 0))]
 [[1, 1, 1], 1, 1, 0]
 """,
+    30: """
+>>> from leadswitch.clusters import Cluster
+>>> from leadswitch.switches import legal, switch
+>>> ring = [(0, 1, 1), (1, 2, 1), (0, 2, 1)]
+>>> low, free = Cluster([(1, 2), (1, 2), (1, 2)], ring), Cluster([(0, 2), (1, 2), (1, 2)], ring)
+>>> [legal(low, (1, 1, 0)), legal(free, (1, 1, 0)), switch(free, (1, 1, 0), 0, 1)]
+[[], [(0, 1)], (0, 1, 0)]
+""",
+    31: """
+>>> from leadswitch.clusters import Cluster
+>>> from leadswitch.plans import length, play
+>>> cluster = Cluster([(0, 10), (5, 6), (0, 10)], [(0, 1, 5), (1, 2, 5)])
+>>> plan = [(3, [(0, 1, 1), (1, 2, 1)])]
+>>> [length(plan), play(cluster, (5, 5), plan)]
+[6, (2, 2)]
+>>> play(cluster, (5, 5), [(1, [(0, 1, 1)]), (9, [(1, 2, 1), (0, 1, 1)])])
+raises Stopped(1, 4, 1)
+""",
+    32: """
+>>> from leadswitch.clusters import Cluster
+>>> from leadswitch.plans import back, most_turns
+>>> cluster = Cluster([(0, 10), (5, 6), (0, 10)], [(0, 1, 5), (1, 2, 5)])
+>>> [back([(3, [(0, 1, 1), (1, 2, 1)])]), most_turns(cluster, (5, 5), [(0, 1, 1), (1, 2, 1)]), most_turns(cluster, (5, 5), [(0, 1, 1), (1, 0, 1)])]
+[[(3, [(2, 1, 1), (1, 0, 1)])], 5, None]
+""",
+    40: """
+>>> from leadswitch.arcs import arcs, first_way, givers, reached
+>>> from leadswitch.clusters import Cluster
+>>> cluster = Cluster([(1, 2), (1, 2), (1, 2), (0, 2)], [(0, 1, 1), (1, 2, 1), (0, 2, 1), (0, 3, 1)])
+>>> leads = (1, 1, 0, 0)
+>>> [givers(cluster, leads), arcs(cluster, leads), reached(cluster, leads, [0]), first_way(cluster, leads, 3, 2)]
+[[3], [(0, 1), (1, 2), (2, 0), (3, 0)], [0, 1, 2], [3, 0, 1, 2]]
+""",
+    42: """
+>>> from leadswitch.clusters import Cluster
+>>> from leadswitch.frozen import bar, is_bar
+>>> ring = [(0, 1, 1), (1, 2, 1), (0, 2, 1)]
+>>> low, free = Cluster([(1, 2), (1, 2), (1, 2)], ring), Cluster([(0, 2), (1, 2), (1, 2)], ring)
+>>> [bar(low, (1, 1, 0), 1), is_bar(low, (1, 1, 0), 1, ('low', [1, 2])), bar(free, (1, 1, 0), 1)]
+[('low', [0, 1, 2]), False, None]
+""",
+    43: """
+>>> from leadswitch.clusters import Cluster
+>>> from leadswitch.frozen import freeing
+>>> freeing(Cluster([(1, 2), (1, 2), (1, 2)], [(0, 1, 1), (1, 2, 1), (0, 2, 1)]), (1, 1, 0), 0)
+[('floor', 0), ('floor', 1), ('floor', 2)]
+""",
 }
+
+
+class Shown:
+    """What the document writes for an error that is raised."""
+
+    def __init__(self, error):
+        parameters = list(inspect.signature(error.__class__.__init__).parameters.values())[1:]
+        names = [one.name for one in parameters if one.kind == inspect.Parameter.POSITIONAL_OR_KEYWORD]
+        fields = ", ".join([repr(getattr(error, name)) for name in names])
+        self.text = f"raises {error.__class__.__name__}({fields})"
+
+    def __repr__(self):
+        return self.text
+
+
+def raised(call):
+    """Return what a call returns, or what shows the error of the package that it raises."""
+    try:
+        return call()
+    except LeadError as error:
+        return Shown(error)
+
+
+def prepared(text):
+    """Return an example in which each call that raises an error shows it instead."""
+    return re.sub(r"^>>> (.*)\n(?=raises )", r">>> raised(lambda: \1)\n", text, flags=re.MULTILINE)
 
 
 class ExamplesTest(unittest.TestCase):
     def test_each_example_returns_what_the_document_says(self):
         for promise, text in EXAMPLES.items():
             with self.subTest(promise=promise):
-                example = doctest.DocTestParser().get_doctest(text, {}, f"[{promise}]", "DOC.md", 0)
+                names = {"raised": raised}
+                example = doctest.DocTestParser().get_doctest(prepared(text), names, f"[{promise}]", "DOC.md", 0)
                 said = []
                 result = doctest.DocTestRunner(verbose=False).run(example, out=said.append)
                 self.assertEqual("".join(said), "")

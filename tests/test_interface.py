@@ -13,6 +13,24 @@ FUNCTIONS = {
         "are_leads": ["cluster", "thing"], "led": ["cluster", "leads", "one", "other"],
         "loads": ["cluster", "leads"], "first_invalid": ["cluster", "leads"],
     },
+    "leadswitch.switches": {
+        "is_legal": ["cluster", "leads", "one", "other"], "switch": ["cluster", "leads", "one", "other"],
+        "legal": ["cluster", "leads"],
+    },
+    "leadswitch.plans": {
+        "is_plan": ["cluster", "thing"], "length": ["plan"], "play": ["cluster", "leads", "plan"], "back": ["plan"],
+        "most_turns": ["cluster", "leads", "runs"], "leads_to": ["cluster", "leads", "goal", "thing"],
+    },
+    "leadswitch.arcs": {
+        "givers": ["cluster", "leads"], "takers": ["cluster", "leads"], "arcs": ["cluster", "leads"],
+        "reached": ["cluster", "leads", "brokers"], "reaching": ["cluster", "leads", "brokers"],
+        "first_way": ["cluster", "leads", "one", "other"],
+    },
+    "leadswitch.frozen": {
+        "low_set": ["cluster", "leads"], "high_set": ["cluster", "leads"], "frozen": ["cluster", "leads"],
+        "bar": ["cluster", "leads", "bundle"], "is_bar": ["cluster", "leads", "bundle", "thing"],
+        "freeing": ["cluster", "leads", "bundle"],
+    },
 }
 
 CLASSES = {

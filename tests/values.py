@@ -5,6 +5,13 @@ class Stranger:
     """An object that the package knows nothing about and that has neither an order nor a length."""
 
 
+class Agreeing:
+    """An object that says to be equal to everything."""
+
+    def __eq__(self, other):
+        return True
+
+
 def nested(depth):
     """Return lists inside each other, so many deep."""
     found = []
