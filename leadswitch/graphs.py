@@ -29,3 +29,25 @@ def first_shortest(pairs, one, other):
         wanted = steps[way[-1]] - 1
         way.append(min([head for tail, head in pairs if tail == way[-1] and steps.get(head) == wanted]))
     return way
+
+
+def joined(pairs):
+    """Return the ascending list of the sets of brokers that the pairs connect, whatever their directions."""
+    home = {broker: broker for pair in pairs for broker in pair}
+    for one, other in pairs:
+        kept, gone = home[one], home[other]
+        home = {broker: kept if where == gone else where for broker, where in home.items()}
+    found = {}
+    for broker in sorted(home):
+        found.setdefault(home[broker], []).append(broker)
+    return list(found.values())
+
+
+def way_pairs(brokers):
+    """Return the pairs of neighbours in a list of brokers."""
+    return [(one, other) for one, other in zip(brokers, brokers[1:])]
+
+
+def ring_pairs(brokers):
+    """Return the pairs of neighbours in a ring of brokers, the last one and the first one being neighbours, too."""
+    return way_pairs(brokers + brokers[:1])

@@ -27,6 +27,11 @@ def is_broker(thing, size):
     return is_integer(thing) and 0 <= thing < size
 
 
+def is_pair(thing, size):
+    """Return whether thing is a tuple of two brokers of a cluster of this size."""
+    return isinstance(thing, tuple) and len(thing) == 2 and all([is_broker(broker, size) for broker in thing])
+
+
 def is_set(thing, size):
     """Return whether thing is a list of different brokers in ascending order."""
     if not isinstance(thing, list):

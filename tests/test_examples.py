@@ -79,6 +79,54 @@ raises Stopped(1, 4, 1)
 >>> freeing(Cluster([(1, 2), (1, 2), (1, 2)], [(0, 1, 1), (1, 2, 1), (0, 2, 1)]), (1, 1, 0), 0)
 [('floor', 0), ('floor', 1), ('floor', 2)]
 """,
+    51: """
+>>> from leadswitch.clusters import Cluster
+>>> from leadswitch.plans import play
+>>> from leadswitch.reach import along, around
+>>> cluster = Cluster([(0, 10), (5, 6), (0, 10)], [(0, 1, 5), (1, 2, 5)])
+>>> play(cluster, (5, 5), along(cluster, (5, 5), [0, 1, 2], 3))
+(2, 2)
+>>> ring = [(0, 1, 1), (1, 2, 1), (0, 2, 1)]
+>>> low, free = Cluster([(1, 2), (1, 2), (1, 2)], ring), Cluster([(0, 2), (1, 2), (1, 2)], ring)
+>>> play(free, (1, 1, 0), around(free, (1, 1, 0), [1, 2, 0], 1))
+(0, 0, 1)
+>>> around(low, (1, 1, 0), [1, 2, 0], 1)
+raises NotLegal()
+""",
+    52: """
+>>> from leadswitch.clusters import Cluster
+>>> from leadswitch.reach import decide
+>>> ring = [(0, 1, 1), (1, 2, 1), (0, 2, 1)]
+>>> decide(Cluster([(1, 2), (1, 2), (1, 2)], ring), (1, 1, 0), (0, 0, 1))
+('frozen', 0, ('low', [0, 1, 2]))
+""",
+    54: """
+>>> from leadswitch.clusters import Cluster
+>>> from leadswitch.onemore import fewest
+>>> from leadswitch.plans import length
+>>> cluster = Cluster([(1, 2), (1, 2), (1, 2), (0, 2)], [(0, 1, 1), (1, 2, 1), (0, 2, 1), (0, 3, 1)])
+>>> [length(fewest(cluster, (1, 1, 0, 0), 2, 0)[1]), length(fewest(cluster, (1, 1, 0, 0), 3, 0)[1])]
+[4, 1]
+""",
+    60: """
+>>> from leadswitch.clusters import Cluster
+>>> from leadswitch.nearest import is_never, to_ranges, worth
+>>> from leadswitch.plans import length
+>>> cluster = Cluster([(0, 10), (0, 6), (0, 10)], [(0, 1, 5), (1, 2, 5)])
+>>> wished = [(2, 2), (5, 5), (3, 3)]
+>>> [length(to_ranges(cluster, (5, 5), wished)[1]), worth(cluster, (5, 5), wished, [2, 1, 0])]
+[6, 6]
+>>> is_never(cluster, (5, 5), [(0, 10), (0, 6), (9, 10)], [2])
+True
+""",
+    63: """
+>>> from leadswitch.clusters import Cluster
+>>> from leadswitch.fewest import fewest_switches, helpers, pieces
+>>> cluster = Cluster([(1, 2), (1, 2), (1, 2), (0, 2)], [(0, 1, 1), (1, 2, 1), (0, 2, 1), (0, 3, 1)])
+>>> leads, goal = (1, 1, 0, 0), (0, 0, 1, 0)
+>>> [pieces(cluster, leads, goal), helpers(cluster, leads, goal), fewest_switches(cluster, leads, goal)]
+[[([0, 1, 2], 'low')], [(3, 0)], 5]
+""",
 }
 
 

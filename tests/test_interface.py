@@ -31,6 +31,23 @@ FUNCTIONS = {
         "bar": ["cluster", "leads", "bundle"], "is_bar": ["cluster", "leads", "bundle", "thing"],
         "freeing": ["cluster", "leads", "bundle"],
     },
+    "leadswitch.reach": {
+        "along": ["cluster", "leads", "brokers", "times"], "around": ["cluster", "leads", "brokers", "times"],
+        "decide": ["cluster", "leads", "goal"],
+    },
+    "leadswitch.onemore": {
+        "stop_of": ["cluster", "leads", "one", "other"], "is_stop": ["cluster", "leads", "one", "other", "thing"],
+        "fewest": ["cluster", "leads", "one", "other"],
+    },
+    "leadswitch.nearest": {
+        "to_ranges": ["cluster", "leads", "ranges"], "worth": ["cluster", "leads", "ranges", "prices"],
+        "is_never": ["cluster", "leads", "ranges", "thing"],
+    },
+    "leadswitch.fewest": {
+        "pieces": ["cluster", "leads", "goal"], "helpers": ["cluster", "leads", "goal"],
+        "are_helpers": ["cluster", "leads", "goal", "thing"], "fewest_switches": ["cluster", "leads", "goal"],
+        "fewest_plan": ["cluster", "leads", "goal"],
+    },
 }
 
 CLASSES = {

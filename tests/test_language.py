@@ -90,6 +90,26 @@ class LanguageTest(unittest.TestCase):
             word = node.arg if isinstance(node, ast.arg) else node.name
             self.assertTrue(not word.startswith("__") or DOUBLE.match(word), place)
 
+    def test_imported_names_are_used_and_mean_nothing_else(self):
+        for name, _, tree in sources():
+            imported = {alias.name for node in tree.body if isinstance(node, ast.ImportFrom) for alias in node.names}
+            used = {node.id for node in ast.walk(tree) if isinstance(node, ast.Name) and isinstance(node.ctx, ast.Load)}
+            given = {node.id for node in ast.walk(tree) if isinstance(node, ast.Name)
+                     and not isinstance(node.ctx, ast.Load)}
+            given |= {node.arg for node in ast.walk(tree) if isinstance(node, ast.arg)}
+            given |= {node.name for node in ast.walk(tree) if isinstance(node, (ast.FunctionDef, ast.ClassDef))}
+            self.assertEqual([imported - used, imported & given], [set(), set()], name)
+
+    def test_lists_that_a_loop_goes_over_are_not_changed_in_it(self):
+        for place, node in nodes_of(ast.For):
+            names = {ast.unparse(each) for each in ast.walk(node.iter) if isinstance(each, (ast.Name, ast.Attribute))}
+            for each in [inner for row in node.body for inner in ast.walk(row)]:
+                if isinstance(each, ast.Call) and isinstance(each.func, ast.Attribute):
+                    if each.func.attr in ("append", "pop", "remove", "insert", "extend", "clear", "setdefault", "update"):
+                        self.assertNotIn(ast.unparse(each.func.value), names, place)
+                if isinstance(each, ast.Subscript) and not isinstance(each.ctx, ast.Load):
+                    self.assertNotIn(ast.unparse(each.value), names, place)
+
     def test_values(self):
         for place, node in nodes_of(ast.Constant):
             self.assertNotIsInstance(node.value, (float, complex), place)

@@ -102,3 +102,79 @@ def great_cluster():
     """Return a Cluster of ten brokers with 45 bundles of 10 ** 18 partitions, and leads with different loads."""
     rows = [(one, other, 10 ** 18 - one) for one, other in itertools.combinations(range(10), 2)]
     return Cluster([(0, 10 ** 30)] * 10, rows), tuple(at * 10 ** 16 for at in range(45))
+
+
+def great_goals(seed, many):
+    """Return a list of tuples (cluster, leads, goal): ten brokers, up to 45 great bundles, all kinds of bounds."""
+    chance = random.Random(seed)
+    found = []
+    for _ in range(many):
+        rows = [(one, other, chance.choice((1, 2, 10 ** 18, chance.randint(1, 10 ** 18))))
+                for one, other in itertools.combinations(range(10), 2) if chance.random() < chance.choice((0.5, 1, 1))]
+        leads, goal = [tuple(chance.choice((0, row[2], chance.randint(0, row[2]))) for row in rows) for _ in range(2)]
+        if chance.random() < 0.5:
+            goal = turned_around(chance, rows, leads)
+        tight = chance.choice((0, 0, 10 ** 30))
+        pairs = zip(loads_of(10, rows, leads), loads_of(10, rows, goal))
+        bounds = [(max(0, min(pair) - tight), min(10 ** 30, max(pair) + 1 + tight)) for pair in pairs]
+        found.append((Cluster(bounds, rows), leads, goal))
+    return found
+
+
+def turned_around(chance, rows, leads):
+    """Return leads with the same loads: many rings are turned, as far as they can be or less."""
+    numbers = {(one, other): at for at, (one, other, _) in enumerate(rows)}
+    after = list(leads)
+    for _ in range(60):
+        ring = chance.sample(range(10), chance.randint(3, 10))
+        pairs = list(zip(ring, ring[1:] + ring[:1]))
+        rooms = []
+        for one, other in pairs:
+            at = numbers.get((min(one, other), max(one, other)))
+            rooms.append(0 if at is None else after[at] if one < other else rows[at][2] - after[at])
+        if min(rooms) > 0:
+            times = chance.choice((1, min(rooms), chance.randint(1, min(rooms))))
+            for one, other in pairs:
+                after[numbers[(min(one, other), max(one, other))]] += -times if one < other else times
+    return tuple(after)
+
+
+def sleeping_rings(seed, many, rings, size, amounts):
+    """Return a list of tuples (cluster, leads, goal) with rings of three at their floors or at their ceilings.
+
+    The goal turns all rings. The other brokers, and bundles between all of them that stay as they are, may help.
+    """
+    chance = random.Random(seed)
+    found = []
+    for _ in range(many):
+        brokers = chance.sample(range(size), size)
+        words = {broker: chance.choice(("low", "high", "free", "low")) for broker in brokers}
+        rows = {}
+        for at in range(rings):
+            ring, amount = brokers[3 * at:3 * at + 3], chance.choice(amounts)
+            word = chance.choice(("low", "low", "high"))
+            for one, other in zip(ring, ring[1:] + ring[:1]):
+                words[one] = word
+                partitions = min(10 ** 18, amount + chance.choice((0, 0, 1)))
+                put(rows, one, other, partitions, chance.randint(amount, partitions), amount)
+        for one, other in itertools.combinations(range(size), 2):
+            if (one, other) not in rows and chance.random() < chance.choice((0.1, 0.3, 0.5)):
+                put(rows, one, other, 1, chance.randint(0, 1), 0)
+        order = chance.sample(sorted(rows), len(rows))
+        bundles = [pair + rows[pair][:1] for pair in order]
+        leads, goal = tuple(rows[pair][1] for pair in order), tuple(rows[pair][2] for pair in order)
+        bounds = []
+        for broker, load in enumerate(loads_of(size, bundles, leads)):
+            room = chance.choice((1, 1, 2))
+            below, above = {"low": (0, room), "high": (min(load, room), load == 0), "free": (1, 1)}[words[broker]]
+            bounds.append((max(0, load - below), load + int(above)))
+        found.append((Cluster(bounds, bundles), leads, goal))
+    return found
+
+
+def put(rows, one, other, partitions, many, amount):
+    """Keep a bundle of which one leads so many partitions, and hands over an amount of them."""
+    if one < other:
+        rows[(one, other)] = (partitions, many, many - amount)
+    else:
+        rows[(other, one)] = (partitions, partitions - many, partitions - many + amount)
