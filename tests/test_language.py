@@ -15,6 +15,7 @@ ValueError TypeError KeyError IndexError LookupError ZeroDivisionError Arithmeti
 NotImplementedError AttributeError StopIteration NotImplemented
 """.split()
 LIBRARY = ("heapq", "math", "itertools", "collections")
+CHANGING = ("append", "pop", "remove", "insert", "extend", "clear", "reverse", "setdefault", "update")
 DOUBLE = re.compile("__[a-z]+__$")
 
 
@@ -105,7 +106,7 @@ class LanguageTest(unittest.TestCase):
             names = {ast.unparse(each) for each in ast.walk(node.iter) if isinstance(each, (ast.Name, ast.Attribute))}
             for each in [inner for row in node.body for inner in ast.walk(row)]:
                 if isinstance(each, ast.Call) and isinstance(each.func, ast.Attribute):
-                    if each.func.attr in ("append", "pop", "remove", "insert", "extend", "clear", "setdefault", "update"):
+                    if each.func.attr in CHANGING:
                         self.assertNotIn(ast.unparse(each.func.value), names, place)
                 if isinstance(each, ast.Subscript) and not isinstance(each.ctx, ast.Load):
                     self.assertNotIn(ast.unparse(each.value), names, place)
