@@ -127,6 +127,36 @@ True
 >>> [pieces(cluster, leads, goal), helpers(cluster, leads, goal), fewest_switches(cluster, leads, goal)]
 [[([0, 1, 2], 'low')], [(3, 0)], 5]
 """,
+    70: """
+>>> from leadswitch.clusters import Cluster
+>>> from leadswitch.extremes import comes_about, greatest_sum, least_sum, sum_bound
+>>> cluster = Cluster([(0, 10), (0, 6), (0, 10)], [(0, 1, 5), (1, 2, 5)])
+>>> [greatest_sum(cluster, (5, 5), [1])[0], least_sum(cluster, (5, 5), [0, 1])[0], sum_bound(cluster, (5, 5), [0, 1], [0, 1], False)]
+[6, 5, 5]
+>>> [comes_about(cluster, (5, 5), [0, 6, 4]), comes_about(cluster, (5, 5), [0, 4, 6])]
+[True, False]
+""",
+    73: """
+>>> from leadswitch.clusters import Cluster
+>>> from leadswitch.listing import all_loads, next_loads
+>>> cluster = Cluster([(0, 2), (1, 2), (1, 2)], [(0, 1, 1), (1, 2, 1), (0, 2, 1)])
+>>> [all_loads(cluster, (1, 1, 0)), next_loads(cluster, (1, 1, 0), [0, 1, 3])]
+[[[0, 1, 2], [0, 2, 1], [1, 1, 1]], [0, 2, 1]]
+""",
+    80: """
+>>> from leadswitch.assignments import loads
+>>> from leadswitch.clusters import Cluster
+>>> from leadswitch.fairest import chain, fairest
+>>> cluster = Cluster([(0, 9), (0, 9), (0, 9)], [(0, 1, 3), (1, 2, 3)])
+>>> [loads(cluster, (3, 2)), chain(cluster, (3, 2)), loads(cluster, fairest(cluster, (3, 2)))]
+[[3, 2, 1], [0, 1, 2], [2, 2, 2]]
+""",
+    90: """
+>>> from leadswitch.clusters import Cluster
+>>> from leadswitch.possible import find_leads, is_impossible
+>>> [find_leads(Cluster([(0, 1), (0, 1)], [(0, 1, 3)])), is_impossible(Cluster([(2, 5), (2, 5)], [(0, 1, 3)]), ('under', [0, 1]))]
+[('over', [0, 1]), True]
+""",
 }
 
 

@@ -48,6 +48,22 @@ FUNCTIONS = {
         "are_helpers": ["cluster", "leads", "goal", "thing"], "fewest_switches": ["cluster", "leads", "goal"],
         "fewest_plan": ["cluster", "leads", "goal"],
     },
+    "leadswitch.extremes": {
+        "comes_about": ["cluster", "leads", "loads"], "greatest_sum": ["cluster", "leads", "brokers"],
+        "least_sum": ["cluster", "leads", "brokers"],
+        "sum_bound": ["cluster", "leads", "brokers", "members", "greatest"], "best": ["cluster", "leads", "weights"],
+        "partner": ["cluster", "leads", "one", "other", "broker"],
+    },
+    "leadswitch.listing": {
+        "next_loads": ["cluster", "leads", "loads"], "all_loads": ["cluster", "leads", "*limit=400"],
+    },
+    "leadswitch.fairest": {
+        "chain": ["cluster", "leads"], "is_fairest": ["cluster", "leads"], "fairest": ["cluster", "leads"],
+        "least_peak": ["cluster", "leads"], "greatest_dip": ["cluster", "leads"],
+    },
+    "leadswitch.possible": {
+        "find_leads": ["cluster"], "is_impossible": ["cluster", "thing"],
+    },
 }
 
 CLASSES = {
@@ -71,11 +87,15 @@ CLASSES = {
 
 class InterfaceTest(unittest.TestCase):
     def check_arguments(self, function, names):
-        parameters = list(inspect.signature(function).parameters.values())
-        self.assertEqual([parameter.name for parameter in parameters], names)
-        for parameter in parameters:
-            self.assertEqual(parameter.kind, inspect.Parameter.POSITIONAL_OR_KEYWORD)
-            self.assertIs(parameter.default, inspect.Parameter.empty)
+        found = []
+        for parameter in inspect.signature(function).parameters.values():
+            if parameter.kind == inspect.Parameter.KEYWORD_ONLY:
+                found.append(f"*{parameter.name}={parameter.default!r}")
+            else:
+                self.assertEqual(parameter.kind, inspect.Parameter.POSITIONAL_OR_KEYWORD)
+                self.assertIs(parameter.default, inspect.Parameter.empty)
+                found.append(parameter.name)
+        self.assertEqual(found, names)
 
     def test_functions_are_defined_in_their_files(self):
         for path, functions in FUNCTIONS.items():

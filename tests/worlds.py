@@ -71,6 +71,54 @@ def distances(cluster, leads):
     return found
 
 
+def abouts(cluster, leads):
+    """Return the ascending list of all loads that come about."""
+    found = {tuple(loads_of(cluster.size(), cluster.bundles(), after)) for after in distances(cluster, leads)}
+    return [list(have) for have in sorted(found)]
+
+
+def sets_of(size):
+    """Return the list of all sets of brokers, the empty one included."""
+    return [list(members) for many in range(size + 1) for members in itertools.combinations(range(size), many)]
+
+
+def wide_worlds(seed, many):
+    """Return a list of tuples (cluster, leads) of all kinds of bounds, narrow ones and wide ones."""
+    chance = random.Random(seed)
+    worlds = some_worlds(seed, many, most=3) + some_worlds(seed, many // 4, sizes=(5,), most=1)
+    worlds += [world[:2] for world in sleeping_rings(seed, many // 8, 1, 5, (1, 2))]
+    found = []
+    for cluster, leads in worlds:
+        bounds = [(max(0, floor - chance.randint(0, 3)), ceiling + chance.randint(0, 3)) if floor < ceiling
+                  else (floor, ceiling) for floor, ceiling in cluster.bounds()]
+        found += [(cluster, leads), (Cluster(bounds, cluster.bundles()), leads)]
+    return found
+
+
+def great_worlds(seed, many):
+    """Return a list of tuples (cluster, leads) of ten brokers with great counts, some brokers being rigid."""
+    chance = random.Random(seed)
+    found = [great_cluster()]
+    for cluster, leads, _ in great_goals(seed, many):
+        rows = list(zip(cluster.bounds(), loads_of(10, cluster.bundles(), leads)))
+        bounds = [(load, load) if chance.random() < 0.1 else bound for bound, load in rows]
+        found.append((Cluster(bounds, cluster.bundles()), leads))
+    return found
+
+
+def anew(cluster):
+    """Return the tuple of Clusters that bounded and grown return and that are equal to a cluster."""
+    rows = cluster.bundles()
+    found = [cluster.bounded(0, 0, 10 ** 30).bounded(0, *cluster.bounds()[0])]
+    if rows and rows[-1][2] > 1:
+        one, other, many = rows[-1]
+        less = Cluster(cluster.bounds(), rows[:-1] + [(one, other, 1)])
+        found.append(less.grown(other, one, many - 1))
+    if rows:
+        found.append(Cluster(cluster.bounds(), rows[:-1]).grown(*rows[-1]))
+    return tuple(found)
+
+
 def played(cluster, leads, plan):
     """Return the leads after a plan, or the tuple (block, turn, run) of its first switch that is not legal."""
     for block, (turns, runs) in enumerate(plan):
