@@ -17,7 +17,10 @@ class Cluster:
     def _keep(self, bounds, bundles):
         self._bounds = list(bounds)
         self._bundles = list(bundles)
-        self._numbers = {(row[0], row[1]): at for at, row in enumerate(bundles)}
+        self._numbers = {}
+        for at, (first, second, _) in enumerate(bundles):
+            self._numbers[(first, second)] = at
+            self._numbers[(second, first)] = at
 
     def _changed(self, bounds, bundles):
         # What bounded and grown are passed may go somewhat beyond a limit, and only the constructor reports that:
@@ -58,7 +61,11 @@ class Cluster:
 
     def bundle_of(self, one, other):
         """Return the number of the bundle of two different brokers, in either order, or None."""
-        return self._numbers.get((min(one, other), max(one, other)))
+        return self._numbers.get((one, other))
+
+    def pairs(self):
+        """Return the dict of the numbers of all bundles, for their two brokers in either order."""
+        return {pair: at for pair, at in self._numbers.items()}
 
     def bounded(self, broker, floor, ceiling):
         """Return the Cluster in which a broker has these bounds."""
@@ -78,3 +85,11 @@ class Cluster:
             raise TooMany(MOST_COUNT)
         bundles[at] = (first, second, before + many)
         return self._changed(self._bounds, bundles)
+
+    def shrunk(self, one, other, many):
+        """Return the Cluster in which the bundle of two brokers has many less; without partitions it is removed."""
+        bundles = self.bundles()
+        at = self.bundle_of(one, other)
+        first, second, before = bundles[at]
+        bundles[at] = (first, second, before - many)
+        return self._changed(self._bounds, [row for row in bundles if row[2] > 0])

@@ -2,7 +2,7 @@
 
 from leadswitch.assignments import loads
 from leadswitch.errors import Stopped
-from leadswitch.kinds import is_broker, is_count
+from leadswitch.kinds import is_count, is_integer
 
 MOST_BLOCKS = 400
 MOST_RUNS_OF_A_BLOCK = 1000
@@ -11,32 +11,35 @@ MOST_RUNS = 4000
 
 def is_plan(cluster, thing):
     """Return whether thing, any value, is a plan, the brokers of each run having a bundle of the cluster."""
+    return is_plan_of(cluster.pairs(), thing)
+
+
+def is_plan_of(pairs, thing):
+    """Return whether thing, any value, is a plan, the brokers (one, other) of each run being among a dict of pairs."""
     if not isinstance(thing, list) or len(thing) > MOST_BLOCKS:
         return False
     many = 0
     for block in thing:
-        if not _is_block(cluster, block):
+        if not _is_block(pairs, block):
             return False
         many += len(block[1])
     return many <= MOST_RUNS
 
 
-def _is_block(cluster, thing):
+def _is_block(pairs, thing):
     if not isinstance(thing, tuple) or len(thing) != 2:
         return False
     turns, runs = thing
     if not is_count(turns) or not isinstance(runs, list) or not 1 <= len(runs) <= MOST_RUNS_OF_A_BLOCK:
         return False
-    return all([_is_run(cluster, run) for run in runs])
+    return all([_is_run(pairs, run) for run in runs])
 
 
-def _is_run(cluster, thing):
+def _is_run(pairs, thing):
     if not isinstance(thing, tuple) or len(thing) != 3:
         return False
     one, other, times = thing
-    if not is_broker(one, cluster.size()) or not is_broker(other, cluster.size()) or not is_count(times):
-        return False
-    return cluster.bundle_of(one, other) is not None
+    return is_integer(one) and is_integer(other) and is_count(times) and (one, other) in pairs
 
 
 def length(plan):

@@ -98,6 +98,30 @@ class Pool:
             takes[broker] = max(wished[broker] - self._loads[broker], 0)
         return self.push(gives, takes)
 
+    def trade(self, one, other, most):
+        """Let one lead up to so many more partitions of its bundle with other, all loads staying; return how many."""
+        there, back = self._rooms[one][other], self._rooms[other][one]
+        gives, takes = [0] * len(self._loads), [0] * len(self._loads)
+        gives[one] = takes[other] = min(most, back)
+        # What one gets in this bundle it gives back by ways of other bundles.
+        self.connect(one, other, 0, 0)
+        before = self._loads[one]
+        self.push(gives, takes)
+        many = before - self._loads[one]
+        self.connect(one, other, there + many, back - many)
+        self._loads[one] += many
+        self._loads[other] -= many
+        return many
+
+
+def whole_pool(cluster):
+    """Return the Pool of leads, perhaps not valid, in which all brokers can hand on what they lead."""
+    leads = tuple([partitions // 2 for _, _, partitions in cluster.bundles()])
+    pool = Pool(loads(cluster, leads))
+    for number, (first, second, partitions) in zip(leads, cluster.bundles()):
+        pool.connect(first, second, number, partitions - number)
+    return pool
+
 
 class FreePool(Pool):
     """The Pool of valid leads in which the brokers that are not rigid hand on what they lead.

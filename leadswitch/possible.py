@@ -1,14 +1,13 @@
 """Whether a cluster has valid leads, and what shows that it has none [90]."""
 
-from leadswitch.assignments import loads
 from leadswitch.kinds import is_set
-from leadswitch.pools import Pool
+from leadswitch.pools import whole_pool
 
 
 def find_leads(cluster):
     """Return ("leads", leads) with valid leads, or ("over", members) or ("under", members) if there are none."""
     brokers, rows = list(range(cluster.size())), cluster.bundles()
-    pool = _half_pool(cluster)
+    pool = whole_pool(cluster)
     # Here rigid brokers hand on, too. What is above a ceiling, and still reaches brokers, fills all their ceilings.
     inside = pool.approach([ceiling for _, ceiling in cluster.bounds()], brokers)
     if inside:
@@ -18,15 +17,6 @@ def find_leads(cluster):
     if any([pool.load(broker) < cluster.floor(broker) for broker in brokers]):
         return ("under", [broker for broker in brokers if broker not in inside])
     return ("leads", tuple([pool.room(first, second) for first, second, _ in rows]))
-
-
-def _half_pool(cluster):
-    """Return the Pool in which each broker leads half of its bundles, and all brokers can hand on what they lead."""
-    leads = tuple([partitions // 2 for _, _, partitions in cluster.bundles()])
-    pool = Pool(loads(cluster, leads))
-    for number, (first, second, partitions) in zip(leads, cluster.bundles()):
-        pool.connect(first, second, number, partitions - number)
-    return pool
 
 
 def is_impossible(cluster, thing):

@@ -194,6 +194,25 @@ class BoundedTest(unittest.TestCase):
         self.assertEqual(cluster.bounds(), [(0, 10 ** 30 + 1), (0, 5), (4, 4)])
 
 
+class PairsTest(unittest.TestCase):
+    def test_numbers_in_either_order(self):
+        cluster = made().grown(2, 0, 5)
+        found = cluster.pairs()
+        self.assertEqual(found, {(0, 1): 0, (1, 0): 0, (1, 2): 1, (2, 1): 1, (0, 2): 2, (2, 0): 2})
+        found.clear()
+        self.assertEqual([len(cluster.pairs()), cluster.bundle_of(2, 0), made().bundle_of(2, 0)], [6, 2, None])
+        self.assertEqual(Cluster(BOUNDS, []).pairs(), {})
+
+
+class ShrunkTest(unittest.TestCase):
+    def test_less_and_nothing(self):
+        cluster = made()
+        self.assertEqual(cluster.shrunk(2, 1, 2), Cluster(BOUNDS, [(0, 1, 1), (1, 2, 1)]))
+        self.assertEqual(state(cluster.shrunk(1, 0, 1)), state(Cluster(BOUNDS, [(1, 2, 3)])))
+        self.assertEqual(state(cluster.shrunk(1, 2, 3)), state(Cluster(BOUNDS, [(0, 1, 1)])))
+        self.assertEqual(state(cluster), state(made()))
+
+
 class GrownTest(unittest.TestCase):
     def check_grown(self, one, other, many, bundles):
         cluster = made()

@@ -157,6 +157,28 @@ True
 >>> [find_leads(Cluster([(0, 1), (0, 1)], [(0, 1, 3)])), is_impossible(Cluster([(2, 5), (2, 5)], [(0, 1, 3)]), ('under', [0, 1]))]
 [('over', [0, 1]), True]
 """,
+    92: """
+>>> from leadswitch.clusters import Cluster
+>>> from leadswitch.records import first_bad, led_range
+>>> cluster = Cluster([(0, 9), (0, 9), (0, 9)], [(0, 1, 3), (1, 2, 3), (0, 2, 3)])
+>>> [led_range(cluster, [3, 3, 3], [], 0, 1), led_range(cluster, [3, 3, 3], [(0, 1), (0, 1)], 0, 1), first_bad(cluster, [3, 3, 3], [(0, 1)] * 4)]
+[(0, 3), (2, 3), 3]
+""",
+    103: """
+>>> from leadswitch.clusters import Cluster
+>>> from leadswitch.notation import read_plan, show_cluster
+>>> [show_cluster(Cluster([(1, 2), (0, 2)], [(0, 1, 3)])), read_plan('3 0>1*1 1>2*1; 1 2>0*5')]
+['1-2 0-2; 0:1*3', [(3, [(0, 1, 1), (1, 2, 1)]), (1, [(2, 0, 5)])]]
+""",
+    104: """
+>>> from leadswitch.clusters import Cluster
+>>> from leadswitch.desk import Desk
+>>> desk = Desk(Cluster([(1, 2), (1, 2), (1, 2)], [(0, 1, 1), (1, 2, 1), (0, 2, 1)]), (1, 1, 0))
+>>> [desk.execute('why 0 1'), desk.execute('bound 0 0 2'), desk.execute('to 0 0 1'), desk.execute('switch 0 1')]
+['low 0 1 2', 'ok', 'yes 3', 'ok']
+>>> [desk.execute('play 1 1>2*1 2>0*1'), desk.execute('loads'), desk.execute('frozen'), desk.execute('fairest')]
+['ok', '1 1 1', '-', '1 1']
+""",
 }
 
 

@@ -83,7 +83,8 @@ class ComesAboutTest(unittest.TestCase):
         self.assertIs(comes_about(ring, leads, [MANY] * 3), True)
         self.assertIs(comes_about(ring, leads, [MANY + 1, MANY - 1, MANY]), False)
         ring, leads = great_ring(0, MOST)
-        for loads, found in (([2 * MANY, MANY, 0], True), ([2 * MANY, 0, MANY], True), ([2 * MANY + 1, MANY - 1, 0], False),
+        for loads, found in (([2 * MANY, MANY, 0], True), ([2 * MANY, 0, MANY], True),
+                             ([2 * MANY + 1, MANY - 1, 0], False),
                              ([0, MANY - 1, 2 * MANY + 1], False), ([MANY + 1, 2 * MANY - 1, 0], True)):
             self.assertIs(comes_about(ring, leads, loads), found)
 
@@ -195,7 +196,7 @@ class SumsTest(unittest.TestCase):
         cluster = Cluster([(0, 9), (5, 5), (0, 9)], [(0, 1, 5), (1, 2, 5), (0, 2, 2)])
         for brokers, sums in (([0], [3, 5]), ([1], [5, 5]), ([2], [2, 4]), ([0, 1], [8, 10]), ([0, 2], [7, 7])):
             self.assertEqual(self.check(cluster, (3, 3, 1), brokers), sums)
-        # Members that are rigid have their part in the number, too: load 5, and 3 and 2 partitions that are not counted.
+        # Members that are rigid count with their loads and their bounds, but with none of their partitions.
         self.assertEqual(sum_bound(cluster, (3, 3, 1), [0], [1], True), 5 - 5 + 9)
         self.assertEqual(sum_bound(cluster, (3, 3, 1), [0], [1], False), 5 - 5 + 0)
         self.assertEqual(sum_bound(cluster, (3, 3, 1), [1, 2], [1], True), 5 + 9)
@@ -315,7 +316,8 @@ class SameTest(unittest.TestCase):
         have = loads_at(cluster, leads)
         weights = [broker % 3 for broker in range(size)]
         goal = best(cluster, leads, weights)[1]
-        partners = [partner(cluster, leads, goal, have, broker) for broker in range(size) if goal[broker] > have[broker]]
+        partners = [partner(cluster, leads, goal, have, broker) for broker in range(size)
+                    if goal[broker] > have[broker]]
         return [comes_about(cluster, leads, goal), greatest_sum(cluster, leads, [0]), least_sum(cluster, leads, [0, 1]),
                 sum_bound(cluster, leads, [0], [1], True), best(cluster, leads, weights), partners]
 

@@ -190,7 +190,8 @@ class PeakAndDipTest(unittest.TestCase):
 
     def test_papers(self):
         pair = Cluster([(0, 9), (0, 9)], [(0, 1, 7)])
-        self.assertEqual([least_peak(pair, (7,)), greatest_dip(pair, (7,))], [(4, ("never", [0, 1])), (3, ("never", [0, 1]))])
+        self.assertEqual([least_peak(pair, (7,)), greatest_dip(pair, (7,))],
+                         [(4, ("never", [0, 1])), (3, ("never", [0, 1]))])
         self.assertEqual(least_peak(pair.bounded(1, 5, 9), (2,)), (5, ("broker", 1)))
         self.assertEqual(greatest_dip(pair.bounded(1, 0, 2), (7,)), (2, ("broker", 1)))
         # The other broker is at its ceiling, or at its floor, but hands on what it gets.

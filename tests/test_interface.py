@@ -64,6 +64,14 @@ FUNCTIONS = {
     "leadswitch.possible": {
         "find_leads": ["cluster"], "is_impossible": ["cluster", "thing"],
     },
+    "leadswitch.records": {
+        "first_bad": ["cluster", "start", "switches"], "possible_leads": ["cluster", "start", "switches"],
+        "led_range": ["cluster", "start", "switches", "one", "other"],
+    },
+    "leadswitch.notation": {
+        "show_cluster": ["cluster"], "show_leads": ["leads"], "show_plan": ["plan"], "show_set": ["members"],
+        "read_cluster": ["text"], "read_leads": ["text"], "read_plan": ["text"],
+    },
 }
 
 CLASSES = {
@@ -82,6 +90,15 @@ CLASSES = {
             "grown": ["one", "other", "many"],
         },
     },
+    "leadswitch.books": {
+        "Book": {
+            "__init__": ["cluster", "leads"], "__len__": [], "switch": ["one", "other"], "play": ["plan"],
+            "bound": ["broker", "floor", "ceiling"], "grow": ["one", "other", "many"],
+            "retire": ["one", "other", "many"], "undo": [], "redo": [], "cluster": [], "leads": [], "loads": [],
+            "frozen": [], "frozen_since": ["one", "other"], "way_back": [], "deeds": [], "copied": [],
+        },
+    },
+    "leadswitch.desk": {"Desk": {"__init__": ["cluster", "leads"], "execute": ["line"]}},
 }
 
 

@@ -82,6 +82,16 @@ class LanguageTest(unittest.TestCase):
                 for alias in node.names:
                     self.assertIn(alias.name, defined[node.module], place)
 
+    def test_no_files_import_from_each_other(self):
+        left = {}
+        for name, _, tree in sources():
+            imported = [node.module for node in tree.body if isinstance(node, ast.ImportFrom)]
+            left["leadswitch." + name[:-3]] = {module for module in imported if module not in LIBRARY}
+        while left:
+            done = [name for name, modules in left.items() if not modules & set(left)]
+            self.assertTrue(done, left)
+            left = {name: modules for name, modules in left.items() if name not in done}
+
     def test_names(self):
         for place, node in nodes_of(ast.Name):
             if hasattr(builtins, node.id) and node.id != "_":

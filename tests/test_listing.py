@@ -102,8 +102,10 @@ class NextLoadsTest(unittest.TestCase):
     def test_a_ring_of_great_counts(self):
         ring, leads = great_ring(0, MOST)
         for loads, found in (([0, 0, 0], [0, MANY, 2 * MANY]), ([0, MANY, 2 * MANY], [0, MANY, 2 * MANY]),
-                             ([0, MANY, 2 * MANY + 1], [0, MANY + 1, 2 * MANY - 1]), ([1, 0, 0], [1, MANY - 1, 2 * MANY]),
-                             ([0, 2 * MANY, MANY + 1], [1, MANY - 1, 2 * MANY]), ([2 * MANY, MANY, 0], [2 * MANY, MANY, 0]),
+                             ([0, MANY, 2 * MANY + 1], [0, MANY + 1, 2 * MANY - 1]),
+                             ([1, 0, 0], [1, MANY - 1, 2 * MANY]),
+                             ([0, 2 * MANY, MANY + 1], [1, MANY - 1, 2 * MANY]),
+                             ([2 * MANY, MANY, 0], [2 * MANY, MANY, 0]),
                              ([2 * MANY, MANY, 1], None), ([2 * MANY + 1, 0, 0], None)):
             self.assertEqual(next_loads(ring, leads, loads), found)
         ring, leads = great_ring(MANY, MOST)
