@@ -86,21 +86,18 @@ def _read_block(words):
 
 
 def _read_tuple(word, signs):
-    """Return the tuple of the integers that a word writes with these signs between them, or None."""
+    """Return the tuple of the integers that a word writes with these signs between them; None where it writes none."""
     found = []
     for sign in signs:
         part, _, word = word.partition(sign)
         found.append(read_integer(part))
-    found.append(read_integer(word))
-    if any([number is None for number in found]):
-        return None
-    return tuple(found)
+    return tuple(found + [read_integer(word)])
 
 
 def read_integer(word):
     """Return the integer that a word writes with at most 40 digits, or None."""
-    if not word.isascii() or not word.isdigit() or len(word) > MOST_DIGITS:
+    if not word.isdigit() or not word.isascii() or len(word) > MOST_DIGITS:
         return None
-    if word[0] == "0" and len(word) > 1:
+    if word[0] == "0" and word != "0":
         return None
     return int(word)

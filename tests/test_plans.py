@@ -174,6 +174,34 @@ class PlayTest(unittest.TestCase):
         last = [(10 ** 18, [(0, 1, 1)] * 1000)]
         self.check_stopped(ring, leads, plan[:300] + last, (300, (5 * 10 ** 17 - 7 * 300000) // 1000, 0))
 
+    def test_many_blocks_and_runs_of_ten_brokers(self):
+        cluster, _ = great_cluster()
+        leads = tuple(row[2] // 2 for row in cluster.bundles())
+        there, back = (0, 1, 1), (1, 0, 1)
+        after = (leads[0] - 400,) + leads[1:]
+        for plan, goal in (([(1, [there, back] * 5)] * 400, leads), ([(1, [there])] * 400, after),
+                           ([(10 ** 18, [there, back] * 500)] * 4, leads)):
+            self.assertIs(is_plan(cluster, plan), True)
+            self.assertEqual(play(cluster, leads, plan), goal)
+            self.assertIs(leads_to(cluster, leads, goal, plan), True)
+            self.assertIs(leads_to(cluster, leads, goal[:-1] + (goal[-1] + 1,), plan), False)
+            # The last block is the first one with a switch that is not legal.
+            stopped = plan[:-1] + [(10 ** 18, plan[-1][1] + [(0, 2, 10 ** 18)])]
+            self.check_stopped(cluster, leads, stopped, (len(plan) - 1, 0, len(plan[-1][1])))
+            self.assertIs(leads_to(cluster, leads, goal, stopped), False)
+
+    def test_turns_between_the_first_and_the_last_one(self):
+        # The first turn is legal, and the block stops at the same turn however many turns it has.
+        cluster = Cluster([(0, 99), (0, 99), (0, 99)], [(0, 1, 40), (1, 2, 40), (0, 2, 40)])
+        leads = (30, 20, 20)
+        for runs, turn, run in (([(0, 1, 1)], 30, 0), ([(0, 1, 3), (1, 2, 1)], 10, 0), ([(1, 2, 1), (0, 1, 1)], 20, 0),
+                                ([(2, 0, 5), (0, 2, 5), (2, 1, 3)], 6, 2), ([(0, 2, 7), (2, 0, 3), (1, 2, 4)], 4, 0),
+                                ([(0, 2, 20), (2, 0, 19), (1, 2, 1)], 1, 0), ([(1, 0, 9), (0, 1, 10), (1, 2, 2)], 10, 2)):
+            self.assertEqual(played(cluster, leads, [(99, runs)]), ("stopped", 0, turn, run))
+            for turns in (turn + 1, turn + 2, 3 * turn + 5, 10 ** 18):
+                self.check_stopped(cluster, leads, [(turns, runs)], (0, turn, run))
+            self.assertEqual(play(cluster, leads, [(turn, runs)]), played(cluster, leads, [(turn, runs)]))
+
     def test_guarantee_frozen_also_holds_for_what_is_played(self):
         cluster = Cluster([(1, 2)] * 3, RING)
         for pair in ((0, 1), (1, 2), (2, 0), (1, 0), (2, 1), (0, 2)):
