@@ -623,7 +623,7 @@ class SameTest(unittest.TestCase):
         book = Book(LOW, LEADS)
         book.bound(0, 0, 2)
         book.bound(0, 1, 2)
-        before = told(book)
+        before = copy.deepcopy(told(book))
         for _ in range(2):
             for found in (book.loads(), book.frozen(), book.deeds(), book.cluster().bounds(), book.cluster().bundles()):
                 found.append(0)

@@ -125,6 +125,10 @@ class FairestTest(unittest.TestCase):
         self.assertEqual(sorted(self.check(star, (6, 1, 2))), [1, 5, 6, 6])
         self.assertEqual(self.check(star.bounded(0, 9, 9), (6, 1, 2)), [9, 0, 5, 4])
         self.assertEqual(self.check(star.bounded(0, 8, 9), (6, 1, 2)), [8, 1, 5, 4])
+        # All could have 2, broker 0 not more, and one is left over.
+        ring = Cluster([(0, 2), (0, 9), (0, 9)], [(0, 1, 3), (1, 2, 2), (0, 2, 2)])
+        for leads in ((1, 1, 1), (0, 2, 0), (2, 0, 0), (0, 0, 2)):
+            self.assertEqual(self.check(ring, leads)[0], 2)
         ends = Cluster([(0, 99)] * 4, [(0, 1, 2), (1, 2, 2), (2, 3, 60)])
         self.assertEqual(self.check(ends, (2, 2, 60)), [2, 2, 30, 30])
         self.assertEqual(self.check(ends, (0, 0, 0)), [2, 2, 30, 30])

@@ -140,6 +140,16 @@ class PlayTest(unittest.TestCase):
         for bounds, turn in (([(0, 9), (0, 9)], 1), ([(0, 9), (2, 9)], 0), ([(0, 7), (0, 9)], 0)):
             self.check_stopped(Cluster(bounds, [(0, 1, 9)]), (6,), [(9, [(1, 0, 2)])], (0, turn, 0))
 
+    def test_a_bound_stops_while_there_are_partitions(self):
+        for bounds, pair, turn in (([(2, 9), (0, 9)], (0, 1), 4), ([(0, 9), (0, 5)], (0, 1), 2),
+                                   ([(0, 8), (0, 9)], (1, 0), 2), ([(0, 9), (1, 9)], (1, 0), 2)):
+            cluster = Cluster(bounds, [(0, 1, 9)])
+            for turns in (turn + 1, 10 ** 18):
+                self.check_stopped(cluster, (6,), [(turns, [pair + (1,)])], (0, turn, 0))
+            self.check_stopped(cluster, (6,), [(turn, [pair + (1,)]), (1, [pair + (1,)])], (1, 0, 0))
+            back = (pair[1], pair[0], turn)
+            self.assertEqual(play(cluster, (6,), [(turn, [pair + (1,)]), (1, [back])]), (6,))
+
     def test_the_first_run_of_the_first_turn(self):
         cluster = Cluster([(0, 9), (0, 9), (0, 9)], [(0, 1, 4), (1, 2, 4)])
         self.check_stopped(cluster, (4, 4), [(2, [(0, 1, 1), (1, 2, 2)]), (5, [(1, 2, 1), (0, 1, 2)])], (1, 0, 0))
